@@ -1,0 +1,243 @@
+package tests
+
+import (
+	"reflect"
+	"testing"
+
+	"loop.example/queryoptimizer/impl"
+)
+
+// spare marks the elements between the length and the capacity of an argument.
+const spare = 99
+
+// span is the memory of a slice, with its spare capacity.
+type span struct {
+	from, to uintptr
+}
+
+// spansOf returns the memory of all slices in a value.
+func spansOf(v reflect.Value) []span {
+	var list []span
+	switch v.Kind() {
+	case reflect.Slice:
+		if size := uintptr(v.Cap()) * v.Type().Elem().Size(); size > 0 {
+			list = append(list, span{v.Pointer(), v.Pointer() + size})
+		}
+		full := v.Slice(0, v.Cap())
+		for i := range full.Len() {
+			list = append(list, spansOf(full.Index(i))...)
+		}
+	case reflect.Struct:
+		for i := range v.NumField() {
+			list = append(list, spansOf(v.Field(i))...)
+		}
+	}
+	return list
+}
+
+// allSpans returns the memory of all slices in some values.
+func allSpans(values []any) []span {
+	var list []span
+	for _, x := range values {
+		list = append(list, spansOf(reflect.ValueOf(x))...)
+	}
+	return list
+}
+
+// overlap reports whether a piece of memory overlaps one of others.
+func overlap(s span, others []span) bool {
+	for _, o := range others {
+		if s.from < o.to && o.from < s.to {
+			return true
+		}
+	}
+	return false
+}
+
+// roomy returns a copy of a value in which each slice has spare capacity with marked elements.
+func roomy[T any](x T) T {
+	return rebuilt(reflect.ValueOf(x), 2, false).Interface().(T)
+}
+
+// scribbled returns a copy of a value with its spare capacity.
+func scribbled(x any) any {
+	return rebuilt(reflect.ValueOf(x), 0, true).Interface()
+}
+
+// rebuilt returns a copy of a value; slices get additional elements, or are extended to their capacity before.
+func rebuilt(v reflect.Value, more int, full bool) reflect.Value {
+	result := reflect.New(v.Type()).Elem()
+	switch v.Kind() {
+	case reflect.Slice:
+		if full {
+			v = v.Slice(0, v.Cap())
+		}
+		result.Set(reflect.MakeSlice(v.Type(), v.Len()+more, v.Len()+more))
+		for i := range v.Len() {
+			result.Index(i).Set(rebuilt(v.Index(i), more, full))
+		}
+		for i := v.Len(); i < result.Len(); i++ {
+			mark(result.Index(i))
+		}
+		result.Set(result.Slice(0, v.Len()))
+	case reflect.Struct:
+		for i := range v.NumField() {
+			result.Field(i).Set(rebuilt(v.Field(i), more, full))
+		}
+	default:
+		result.Set(v)
+	}
+	return result
+}
+
+// mark sets all numbers of a value, except in its slices, to a mark.
+func mark(v reflect.Value) {
+	switch v.Kind() {
+	case reflect.Int:
+		v.SetInt(spare)
+	case reflect.Struct:
+		for i := range v.NumField() {
+			mark(v.Field(i))
+		}
+	}
+}
+
+// overwrite marks all elements of all slices in a value, and their spare capacity.
+func overwrite(v reflect.Value) {
+	switch v.Kind() {
+	case reflect.Slice:
+		full := v.Slice(0, v.Cap())
+		for i := range full.Len() {
+			overwrite(full.Index(i))
+			mark(full.Index(i))
+		}
+	case reflect.Struct:
+		for i := range v.NumField() {
+			overwrite(v.Field(i))
+		}
+	}
+}
+
+// checkPure checks that a call does not change its arguments, that its results are new memory, and that another call has the same results.
+func checkPure(t *testing.T, name string, args []any, call func() []any) {
+	t.Helper()
+	var before []any
+	for _, x := range args {
+		before = append(before, scribbled(x))
+	}
+	results := call()
+	given := allSpans(args)
+	fresh := allSpans(results)
+	for i, s := range fresh {
+		if overlap(s, given) {
+			t.Errorf("%s: a result shares memory with an argument", name)
+		}
+		if overlap(s, fresh[:i]) {
+			t.Errorf("%s: two slices of the results share memory", name)
+		}
+	}
+	kept := call()
+	for _, x := range results {
+		overwrite(reflect.ValueOf(x))
+	}
+	if again := call(); !equal(again, kept) {
+		t.Errorf("%s: the results change from %v to %v", name, kept, again)
+	}
+	for i, x := range args {
+		if !equal(scribbled(x), before[i]) {
+			t.Errorf("%s: argument %d changes from %v to %v", name, i, before[i], scribbled(x))
+		}
+	}
+}
+
+func TestMemoryOfValues(t *testing.T) {
+	a, b := roomy(row("1 null 3")), roomy(row("1 2 3"))
+	checkPure(t, "CompareRows", []any{a, b}, func() []any { return []any{impl.CompareRows(a, b)} })
+}
+
+func TestMemoryOfTables(t *testing.T) {
+	list := roomy(rows("3 1", "null 2", "3 1", "0 0", "3 0", "null 2"))
+	for width := range 3 {
+		checkPure(t, "TableOf", []any{list}, func() []any {
+			x, ok := impl.TableOf(width, list)
+			return []any{x, ok}
+		})
+	}
+	valid := table(t, 2, "3 1", "null 2", "3 1", "0 0")
+	for _, x := range []impl.Table{valid, {Width: 2}, {Width: 2, Rows: rows("3 1", "1 1")}, {Width: 3, Rows: rows("3 1")}, tableOf(t, 1, numbered(0, 400))} {
+		a, b := roomy(x), roomy(valid)
+		r := roomy(row("3 1"))
+		checkPure(t, "ValidTable", []any{a}, func() []any { return []any{impl.ValidTable(a)} })
+		checkPure(t, "CountRow", []any{a, r}, func() []any { return []any{impl.CountRow(a, r)} })
+		checkPure(t, "DistinctRows", []any{a}, func() []any {
+			d, ok := impl.DistinctRows(a)
+			return []any{d, ok}
+		})
+		for _, pair := range [][2]impl.Table{{a, b}, {b, a}, {a, a}} {
+			checkPure(t, "UnionAll", []any{pair[0], pair[1]}, func() []any {
+				u, ok := impl.UnionAll(pair[0], pair[1])
+				return []any{u, ok}
+			})
+		}
+	}
+}
+
+// memoryExprs returns expressions with spare capacity, most of them valid for the width 3.
+func memoryExprs() []impl.Expr {
+	shared := op(impl.Plus, col(0), lit(2))
+	list := []impl.Expr{
+		col(2), lit(4), shared, op(impl.AndExpr, shared, op(impl.AndExpr, shared, op(impl.NotExpr, col(1)))),
+		op(impl.OrExpr, op(impl.LessThan, lit(1), lit(2)), col(0)), op(impl.Plus, lit(1), lit(2)), nested(8, col(0)),
+		{}, op(impl.Plus, col(0)), op(impl.NotExpr, lit(10000)), nested(9, col(0)),
+	}
+	for _, c := range someExprs(40, 4) {
+		list = append(list, c.e)
+	}
+	var result []impl.Expr
+	for _, e := range list {
+		result = append(result, roomy(e))
+	}
+	// Both kids have the same memory.
+	kid := result[3]
+	return append(result, op(impl.AndExpr, kid, kid))
+}
+
+func TestMemoryOfExpressions(t *testing.T) {
+	r := roomy(row("3 null 0"))
+	by := roomy([]impl.Expr{op(impl.Plus, col(0), col(1)), op(impl.NullTest, lit(1)), col(2)})
+	by[2] = by[0]
+	for _, e := range memoryExprs() {
+		checkPure(t, "ValidExpr", []any{e}, func() []any { return []any{impl.ValidExpr(e, 3)} })
+		checkPure(t, "EvalExpr", []any{e, r}, func() []any {
+			v, ok := impl.EvalExpr(e, r)
+			return []any{v, ok}
+		})
+		checkPure(t, "ColumnsOf", []any{e}, func() []any { return []any{impl.ColumnsOf(e)} })
+		checkPure(t, "ExprSize", []any{e}, func() []any { return []any{impl.ExprSize(e)} })
+		checkPure(t, "Substitute", []any{e, by}, func() []any {
+			x, ok := impl.Substitute(e, by, 3)
+			return []any{x, ok}
+		})
+		parts := roomy([]impl.Expr{e})
+		checkPure(t, "Substitute", []any{parts}, func() []any {
+			x, ok := impl.Substitute(op(impl.Minus, col(0), col(0)), parts, 3)
+			return []any{x, ok}
+		})
+	}
+}
+
+func TestMemoryOfSimplification(t *testing.T) {
+	states := roomy([]int{7, 4, 3})
+	nulls := roomy([]int{1, 0, 1})
+	for _, e := range memoryExprs() {
+		checkPure(t, "FoldExpr", []any{e}, func() []any { return []any{impl.FoldExpr(e)} })
+		checkPure(t, "Conjuncts", []any{e}, func() []any { return []any{impl.Conjuncts(e)} })
+		for _, list := range [][]impl.Expr{{e}, {e, e}, {e, col(0), e}} {
+			given := roomy(list)
+			checkPure(t, "Conjoin", []any{given}, func() []any { return []any{impl.Conjoin(given)} })
+			checkPure(t, "Conjoin", []any{list}, func() []any { return []any{impl.Conjoin(list)} })
+		}
+		checkPure(t, "Outcomes", []any{e, states}, func() []any { return []any{impl.Outcomes(e, states)} })
+		checkPure(t, "RejectsNulls", []any{e, nulls}, func() []any { return []any{impl.RejectsNulls(e, 3, nulls)} })
+	}
+}
