@@ -75,6 +75,17 @@ func TestP019FoldingIsIdempotent(t *testing.T) {
 	}
 }
 
+// allTrue reports whether all of some expressions are true for a row.
+func allTrue(t *testing.T, list []impl.Expr, r []impl.Value) bool {
+	t.Helper()
+	for _, e := range list {
+		if !isTrue(t, e, r) {
+			return false
+		}
+	}
+	return true
+}
+
 func TestP020AnExpressionIsTrueExactlyIfAllItsConjunctsAre(t *testing.T) {
 	m := &maker{state: 20}
 	for range 300 {
@@ -85,11 +96,7 @@ func TestP020AnExpressionIsTrueExactlyIfAllItsConjunctsAre(t *testing.T) {
 		list := impl.Conjuncts(e)
 		for range 10 {
 			r := m.row(3)
-			all := true
-			for _, part := range list {
-				all = all && isTrue(t, part, r)
-			}
-			if all != isTrue(t, e, r) {
+			if allTrue(t, list, r) != isTrue(t, e, r) {
 				t.Fatalf("Conjuncts(%v) = %v for %v", e, list, r)
 			}
 		}
@@ -143,11 +150,7 @@ func TestP021ConjoinedExpressionsAreTrueTogether(t *testing.T) {
 		}
 		for range 10 {
 			r := m.row(3)
-			all := true
-			for _, part := range list {
-				all = all && isTrue(t, part, r)
-			}
-			if all != isTrue(t, e, r) {
+			if allTrue(t, list, r) != isTrue(t, e, r) {
 				t.Fatalf("Conjoin(%v) for %v", list, r)
 			}
 		}

@@ -1,6 +1,7 @@
 package tests
 
 import (
+	"cmp"
 	"math"
 	"strconv"
 	"testing"
@@ -33,12 +34,7 @@ func TestValidValue(t *testing.T) {
 func TestP001ValuesAreTotallyOrdered(t *testing.T) {
 	for i, a := range orderedValues {
 		for k, b := range orderedValues {
-			want := 0
-			if i < k {
-				want = -1
-			} else if i > k {
-				want = 1
-			}
+			want := cmp.Compare(i, k)
 			if got := impl.CompareValues(a, b); got != want {
 				t.Errorf("CompareValues(%v, %v) = %d, want %d", a, b, got, want)
 			}
@@ -140,12 +136,7 @@ func TestP004RowsAreTotallyOrdered(t *testing.T) {
 	ordered := rows("null null", "null -1", "null 0", "null 9999", "-9999 5", "-1 null", "0 -3", "0 3", "1 null", "9999 9999")
 	for i, a := range ordered {
 		for k, b := range ordered {
-			want := 0
-			if i < k {
-				want = -1
-			} else if i > k {
-				want = 1
-			}
+			want := cmp.Compare(i, k)
 			if got := impl.CompareRows(a, b); got != want {
 				t.Errorf("CompareRows(%v, %v) = %d, want %d", a, b, got, want)
 			}
