@@ -241,3 +241,43 @@ func TestMemoryOfSimplification(t *testing.T) {
 		checkPure(t, "RejectsNulls", []any{e, nulls}, func() []any { return []any{impl.RejectsNulls(e, 3, nulls)} })
 	}
 }
+
+// memoryPlans returns plans with spare capacity, most of them valid for the widths 2 and 1.
+func memoryPlans() []impl.Plan {
+	both := join(lit(1), scan(0), scan(0))
+	list := append(basicPlans(), both, union(both, both), distinct(union(scan(1), scan(1))), group(both), group(both, 0, 2), project(both, columns(4)...))
+	list = append(list, leftJoin(val(null), scan(0), scan(1)), filter(lit(1), filter(col(1), scan(0))), union(scan(0), scan(1)), scan(2), impl.Plan{})
+	var result []impl.Plan
+	for _, p := range list {
+		result = append(result, roomy(p))
+	}
+	// Both kids, and their expressions, have the same memory.
+	kid := result[1]
+	return append(result, union(kid, kid), join(kid.Exprs[0], kid, kid))
+}
+
+func TestMemoryOfPlans(t *testing.T) {
+	widths := roomy([]int{2, 1})
+	db := roomy([]impl.Table{table(t, 2, "null 1", "1 null", "1 2", "1 2", "3 1"), table(t, 1, "null", "1", "1", "4")})
+	for _, p := range memoryPlans() {
+		checkPure(t, "PlanWidth", []any{p, widths}, func() []any { return []any{impl.PlanWidth(p, widths)} })
+		checkPure(t, "PlanSize", []any{p, widths}, func() []any { return []any{impl.PlanSize(p, widths)} })
+		checkPure(t, "TablesOf", []any{p, widths}, func() []any { return []any{impl.TablesOf(p, widths)} })
+		checkPure(t, "EvalPlan", []any{p, db}, func() []any {
+			x, ok := impl.EvalPlan(p, db)
+			return []any{x, ok}
+		})
+	}
+}
+
+func TestMemoryOfProperties(t *testing.T) {
+	widths := roomy([]int{2, 1})
+	flags := roomy([][]bool{{false, true}, {true}})
+	counts := roomy([]int{3, 400})
+	sets := roomy([]bool{true, false})
+	for _, p := range memoryPlans() {
+		checkPure(t, "NullableColumns", []any{p, widths, flags}, func() []any { return []any{impl.NullableColumns(p, widths, flags)} })
+		checkPure(t, "RowBound", []any{p, widths, counts}, func() []any { return []any{impl.RowBound(p, widths, counts)} })
+		checkPure(t, "IsDuplicateFree", []any{p, widths, sets}, func() []any { return []any{impl.IsDuplicateFree(p, widths, sets)} })
+	}
+}
