@@ -281,3 +281,67 @@ func TestMemoryOfProperties(t *testing.T) {
 		checkPure(t, "IsDuplicateFree", []any{p, widths, sets}, func() []any { return []any{impl.IsDuplicateFree(p, widths, sets)} })
 	}
 }
+
+// memoryRewritings returns plans with spare capacity to which steps can be applied, valid for the widths 2 and 1.
+func memoryRewritings() []impl.Plan {
+	f := equals(0, 2)
+	list := []impl.Plan{
+		filter(col(0), filter(col(1), scan(0))), filter(and(f, lit(0)), join(f, scan(0), scan(1))), filter(and(f, f), leftJoin(f, scan(0), scan(1))),
+		filter(col(1), union(scan(0), union(scan(0), scan(0)))), distinct(distinct(group(scan(0), 0, 1))),
+		filter(equals(0, 1), project(scan(0), op(impl.Plus, col(0), col(1)), col(1))),
+		project(project(project(scan(0), equals(0, 1), col(0)), equals(0, 1), col(0), col(0)), equals(0, 0), col(1), col(1)),
+	}
+	for _, c := range []uint64{1, 2, 3, 4, 5, 6, 7, 8} {
+		p, _ := (&maker{state: c}).rewritable([]int{2, 1}, 4)
+		list = append(list, p)
+	}
+	var result []impl.Plan
+	for _, p := range append(list, distinct(union(list[0], list[3]))) {
+		result = append(result, roomy(p))
+	}
+	// Both kids, and their expressions, have the same memory.
+	kid := result[0]
+	return append(result, filter(kid.Exprs[0], union(kid, kid)), filter(kid.Exprs[0], join(kid.Exprs[0], kid, kid)), project(project(scan(0), kid.Exprs[0], kid.Exprs[0]), kid.Exprs[0], kid.Exprs[0]))
+}
+
+func TestMemoryOfRewriting(t *testing.T) {
+	widths := roomy([]int{2, 1})
+	for _, p := range append(memoryPlans(), memoryRewritings()...) {
+		checkPure(t, "StepsFor", []any{p, widths}, func() []any { return []any{impl.StepsFor(p, widths)} })
+		for _, path := range [][]int{nil, {0}, {1}, {0, 0}, {2}} {
+			at := roomy(path)
+			checkPure(t, "PlanAt", []any{p, at}, func() []any {
+				q, ok := impl.PlanAt(p, at)
+				return []any{q, ok}
+			})
+			for rule := 0; rule <= impl.MergeProjects; rule++ {
+				s := roomy(step(rule, path...))
+				checkPure(t, "ApplyStep", []any{p, widths, s}, func() []any {
+					q, ok := impl.ApplyStep(p, widths, s)
+					return []any{q, ok}
+				})
+			}
+		}
+	}
+}
+
+func TestMemoryOfCertificates(t *testing.T) {
+	widths := roomy([]int{2, 1})
+	m := &maker{state: 800}
+	for _, p := range append(memoryPlans(), memoryRewritings()...) {
+		checkPure(t, "Normalize", []any{p, widths}, func() []any {
+			q, steps := impl.Normalize(p, widths)
+			return []any{q, steps}
+		})
+		checkPure(t, "IsNormal", []any{p, widths}, func() []any { return []any{impl.IsNormal(p, widths)} })
+		for range 10 {
+			list, after := m.walk(t, p, widths, m.below(6))
+			steps, q := roomy(list), roomy(after)
+			checkPure(t, "ApplySteps", []any{p, widths, steps}, func() []any {
+				r, ok := impl.ApplySteps(p, widths, steps)
+				return []any{r, ok}
+			})
+			checkPure(t, "CheckRewrite", []any{p, q, widths, steps}, func() []any { return []any{impl.CheckRewrite(p, q, widths, steps)} })
+		}
+	}
+}

@@ -341,17 +341,30 @@ type somePlan struct {
 // somePlans returns plans and tables; no table on the way has more than MaxRows rows.
 func somePlans(t *testing.T, seed int, count int) []somePlan {
 	t.Helper()
+	return plansFrom(t, seed, count, func(m *maker, widths []int) (impl.Plan, int) { return m.plan(widths, m.below(5)) })
+}
+
+// plansFrom returns plans that a function makes, and tables; no table on the way has more than MaxRows rows.
+func plansFrom(t *testing.T, seed int, count int, plan func(m *maker, widths []int) (impl.Plan, int)) []somePlan {
+	t.Helper()
 	m := &maker{state: uint64(seed)}
 	var list []somePlan
 	for len(list) < count {
 		db := m.db(t, 6)
-		p, width := m.plan(widthsOf(db), m.below(5))
+		p, width := plan(m, widthsOf(db))
 		if got := impl.PlanWidth(p, widthsOf(db)); got != width {
 			t.Fatalf("PlanWidth(%v, %v) = %d, want %d", p, widthsOf(db), got, width)
 		}
-		if _, most := slowRows(t, p, db); most <= impl.MaxRows {
+		if isSmall(t, p, db) {
 			list = append(list, somePlan{p, db, widthsOf(db)})
 		}
 	}
 	return list
+}
+
+// isSmall reports whether no table on the way to the result of a plan has more than MaxRows rows.
+func isSmall(t *testing.T, p impl.Plan, db []impl.Table) bool {
+	t.Helper()
+	_, most := slowRows(t, p, db)
+	return most <= impl.MaxRows
 }
