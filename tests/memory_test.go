@@ -345,3 +345,87 @@ func TestMemoryOfCertificates(t *testing.T) {
 		}
 	}
 }
+
+func TestMemoryOfStatistics(t *testing.T) {
+	for _, x := range append(invalidTables(), table(t, 2, "null 1", "1 null", "1 2", "1 2"), table(t, 3), tableOf(t, 1, numbered(0, 400))) {
+		given := roomy(x)
+		checkPure(t, "StatsOf", []any{given}, func() []any { return []any{impl.StatsOf(given)} })
+	}
+	for _, c := range append(invalidStats(), statistics(9, 2, 1, 3, 3, 0, 9), statistics(0, 0, 0)) {
+		s := roomy(c)
+		checkPure(t, "ValidStats", []any{s}, func() []any { return []any{impl.ValidStats(s, len(s.Distinct))} })
+		for _, e := range memoryExprs() {
+			checkPure(t, "Selectivity", []any{e, s}, func() []any { return []any{impl.Selectivity(e, s)} })
+		}
+	}
+	for _, list := range [][]impl.Stats{{statistics(9, 2, 1, 3, 3), full(4)}, {full(4)}, {statistics(9, 2, 1, 3, 3), {}}} {
+		stats := roomy(list)
+		for _, p := range append(memoryPlans(), memoryRewritings()...) {
+			checkPure(t, "EstimateRows", []any{p, stats}, func() []any { return []any{impl.EstimateRows(p, stats)} })
+		}
+	}
+}
+
+func TestMemoryOfCosts(t *testing.T) {
+	db := roomy([]impl.Table{table(t, 2, "null 1", "1 null", "1 2", "1 2", "3 1"), table(t, 1, "null", "1", "1", "4")})
+	plans := append(memoryPlans(), memoryRewritings()...)
+	for _, list := range [][]impl.Stats{{statistics(9, 2, 1, 3, 3), full(4)}, {full(4)}, {statistics(9, 2, 1, 3, 3), {}}} {
+		stats := roomy(list)
+		for _, p := range plans {
+			checkPure(t, "PlanCost", []any{p, db}, func() []any { return []any{impl.PlanCost(p, db)} })
+			checkPure(t, "EstimateCost", []any{p, stats}, func() []any { return []any{impl.EstimateCost(p, stats)} })
+			checkPure(t, "Improve", []any{p, stats}, func() []any {
+				q, s := impl.Improve(p, stats)
+				return []any{q, s}
+			})
+		}
+		for _, count := range []int{0, 1, impl.MaxPlans, impl.MaxPlans + 1} {
+			some := roomy(plans[:count])
+			checkPure(t, "CheapestPlan", []any{some, stats}, func() []any { return []any{impl.CheapestPlan(some, stats)} })
+		}
+	}
+}
+
+// memoryTrees returns trees with spare capacity, valid and invalid ones.
+func memoryTrees() []impl.JoinTree {
+	pair := tree(leaf(2), leaf(1))
+	var result []impl.JoinTree
+	for _, x := range []impl.JoinTree{leaf(0), leaf(7), pair, tree(leaf(0), pair), tree(tree(leaf(3), pair), tree(leaf(4), leaf(0))), tree(pair, leaf(1)), {Leaf: 1, Kids: pair.Kids}, {Kids: pair.Kids[:1]}} {
+		result = append(result, roomy(x))
+	}
+	// Both kids have the same memory.
+	return append(result, tree(result[2], result[2]))
+}
+
+func TestMemoryOfJoinTrees(t *testing.T) {
+	m := &maker{state: 1100}
+	list := append(validGraphs(), invalidGraphs()...)
+	for range 20 {
+		list = append(list, m.graph())
+	}
+	for _, c := range list {
+		g := roomy(c)
+		checkPure(t, "ValidGraph", []any{g}, func() []any { return []any{impl.ValidGraph(g)} })
+		checkPure(t, "SubsetSize", []any{g}, func() []any { return []any{impl.SubsetSize(g, 1), impl.SubsetSize(g, 3), impl.SubsetSize(g, 31)} })
+		checkPure(t, "BestTree", []any{g}, func() []any {
+			x, n := impl.BestTree(g)
+			return []any{x, n}
+		})
+		checkPure(t, "BestOrder", []any{g}, func() []any {
+			order, n := impl.BestOrder(g)
+			return []any{order, n}
+		})
+		checkPure(t, "GreedyTree", []any{g}, func() []any {
+			x, n := impl.GreedyTree(g)
+			return []any{x, n}
+		})
+		checkPure(t, "BestCosts", []any{g}, func() []any { return []any{impl.BestCosts(g)} })
+		for _, costs := range [][]int{roomy(impl.BestCosts(g)), roomy([]int{0, 0, 0, 1}), nil} {
+			checkPure(t, "CheckCosts", []any{g, costs}, func() []any { return []any{impl.CheckCosts(g, costs)} })
+		}
+		for _, x := range memoryTrees() {
+			checkPure(t, "TreeCost", []any{g, x}, func() []any { return []any{impl.TreeCost(g, x)} })
+			checkPure(t, "LeavesOf", []any{g, x}, func() []any { return []any{impl.LeavesOf(g, x)} })
+		}
+	}
+}
