@@ -429,3 +429,54 @@ func TestMemoryOfJoinTrees(t *testing.T) {
 		}
 	}
 }
+
+// memoryQueries returns queries with spare capacity, valid and invalid ones.
+func memoryQueries() []impl.Rule {
+	m := &maker{state: 1400}
+	list := append(validQueries(), invalidQueries()[:12]...)
+	for range 20 {
+		list = append(list, m.query(m.below(4)))
+	}
+	var result []impl.Rule
+	for _, q := range list {
+		result = append(result, roomy(q))
+	}
+	return result
+}
+
+func TestMemoryOfConjunctiveQueries(t *testing.T) {
+	m := &maker{state: 1401}
+	lists := append(validFacts(), invalidFacts()...)
+	for range 5 {
+		lists = append(lists, m.facts(14))
+	}
+	for _, list := range lists {
+		facts := roomy(list)
+		checkPure(t, "ValidFacts", []any{facts}, func() []any { return []any{impl.ValidFacts(facts)} })
+		for _, q := range memoryQueries() {
+			checkPure(t, "Answers", []any{q, facts}, func() []any { return []any{impl.Answers(q, facts)} })
+		}
+	}
+	for _, q := range memoryQueries() {
+		checkPure(t, "ValidRule", []any{q}, func() []any { return []any{impl.ValidRule(q)} })
+		checkPure(t, "Freeze", []any{q}, func() []any { return []any{impl.Freeze(q)} })
+	}
+}
+
+func TestMemoryOfContainment(t *testing.T) {
+	mappings := [][]int{roomy(identity(6)), roomy(identity(3)), roomy([]int{0}), nil}
+	for _, q := range memoryQueries() {
+		checkPure(t, "IsMinimal", []any{q}, func() []any { return []any{impl.IsMinimal(q)} })
+		checkPure(t, "Minimize", []any{q}, func() []any { return []any{impl.Minimize(q)} })
+		for _, r := range append(memoryQueries(), q) {
+			checkPure(t, "FindHomomorphism", []any{q, r}, func() []any {
+				h, ok := impl.FindHomomorphism(q, r)
+				return []any{h, ok}
+			})
+			checkPure(t, "IsContained", []any{q, r}, func() []any { return []any{impl.IsContained(q, r)} })
+			for _, h := range mappings {
+				checkPure(t, "CheckHomomorphism", []any{q, r, h}, func() []any { return []any{impl.CheckHomomorphism(q, r, h)} })
+			}
+		}
+	}
+}
