@@ -480,3 +480,104 @@ func TestMemoryOfContainment(t *testing.T) {
 		}
 	}
 }
+
+// memoryTables returns tables with spare capacity, valid and invalid ones.
+func memoryTables(t *testing.T) []impl.Table {
+	t.Helper()
+	list := append(invalidTables(), impl.Table{Width: 2}, table(t, 2, "null 1", "1 null", "1 2", "1 2", "2 0", "3 1"), tableOf(t, 1, numbered(0, impl.MaxRows)))
+	list = append(list, someTables(t, 3)...)
+	var result []impl.Table
+	for _, x := range list {
+		result = append(result, roomy(x))
+	}
+	// All rows have the same memory.
+	one := roomy(row("1 2 3"))
+	return append(result, impl.Table{Width: 3, Rows: [][]impl.Value{one, one, one}})
+}
+
+// memoryDependencies returns dependencies with spare capacity, valid and invalid ones, with their widths.
+func memoryDependencies() ([][]impl.Dependency, []int) {
+	lists, widths := [][]impl.Dependency{nil, roomy(deps(1, 9)), roomy(deps(0, 1, -1, 2)), roomy(deps(1, 7)), roomy(pairsToBoth())}, []int{1, 3, 3, 9, 6}
+	someDependencies(1500, 60, func(_ *maker, fds []impl.Dependency, width int) {
+		lists, widths = append(lists, roomy(fds)), append(widths, width)
+	})
+	return lists, widths
+}
+
+func TestMemoryOfDependencies(t *testing.T) {
+	lists, widths := memoryDependencies()
+	for i, fds := range lists {
+		width, f := widths[i], dep(1, 6)
+		checkPure(t, "ValidDependencies", []any{fds}, func() []any { return []any{impl.ValidDependencies(fds, width)} })
+		for _, set := range []int{0, 1, 3, 70} {
+			checkPure(t, "ClosureOf", []any{fds}, func() []any { return []any{impl.ClosureOf(fds, width, set)} })
+			checkPure(t, "Derivation", []any{fds}, func() []any { return []any{impl.Derivation(fds, width, set)} })
+			checkPure(t, "IsKey", []any{fds}, func() []any { return []any{impl.IsKey(fds, width, set)} })
+		}
+		checkPure(t, "Implies", []any{fds}, func() []any { return []any{impl.Implies(fds, width, f)} })
+		for _, list := range [][]int{nil, {0}, {0, 1, 0}, impl.Derivation(fds, width, 1)} {
+			steps := roomy(list)
+			checkPure(t, "CheckDerivation", []any{fds, steps}, func() []any { return []any{impl.CheckDerivation(fds, width, f, steps)} })
+		}
+		checkPure(t, "CandidateKeys", []any{fds}, func() []any { return []any{impl.CandidateKeys(fds, width)} })
+		checkPure(t, "MinimalCover", []any{fds}, func() []any { return []any{impl.MinimalCover(fds, width)} })
+		checkPure(t, "IsNormalForm", []any{fds}, func() []any { return []any{impl.IsNormalForm(fds, width)} })
+		if cover := roomy(impl.MinimalCover(fds, width)); len(cover) > 0 {
+			checkPure(t, "MinimalCover", []any{cover}, func() []any { return []any{impl.MinimalCover(cover, width)} })
+		}
+	}
+	for _, x := range memoryTables(t) {
+		for _, f := range deps(1, 2, 0, 1, 3, 4) {
+			checkPure(t, "HoldsIn", []any{x}, func() []any { return []any{impl.HoldsIn(f, x)} })
+		}
+	}
+}
+
+func TestMemoryOfRanges(t *testing.T) {
+	m := &maker{state: 1700}
+	list := memoryExprs()
+	for range 40 {
+		list = append(list, roomy(m.restriction(3, 3)))
+	}
+	for _, e := range list {
+		checkPure(t, "RangeOf", []any{e}, func() []any {
+			r, ok := impl.RangeOf(e, 3, 1)
+			return []any{r, ok}
+		})
+	}
+	for _, x := range memoryTables(t) {
+		for c := range 3 {
+			checkPure(t, "IndexOf", []any{x}, func() []any { return []any{impl.IndexOf(x, c)} })
+			for _, r := range []impl.Range{between(-9999, 9999), between(0, 1), between(1, 0)} {
+				checkPure(t, "ScanRange", []any{x}, func() []any {
+					y, ok := impl.ScanRange(x, c, r)
+					return []any{y, ok}
+				})
+			}
+		}
+	}
+}
+
+func TestMemoryOfOrders(t *testing.T) {
+	m := &maker{state: 1800}
+	var lists [][]impl.SortKey
+	for _, keys := range [][]impl.SortKey{nil, keysOf(up(0)), keysOf(down(1), up(0)), keysOf(up(0), up(0)), m.keys(3), m.keys(3), keysOf(down(2), down(1), up(0))} {
+		lists = append(lists, roomy(keys))
+	}
+	for _, x := range memoryTables(t) {
+		for _, keys := range lists {
+			checkPure(t, "SortRows", []any{x, keys}, func() []any { return []any{impl.SortRows(x, keys)} })
+			for _, n := range []int{-1, 0, 1, 3, 1000} {
+				checkPure(t, "TopRows", []any{x, keys}, func() []any { return []any{impl.TopRows(x, keys, n)} })
+			}
+			for _, list := range [][][]impl.Value{x.Rows, roomy(impl.SortRows(x, keys))} {
+				checkPure(t, "IsSorted", []any{list, keys}, func() []any { return []any{impl.IsSorted(list, keys)} })
+			}
+		}
+	}
+	for _, has := range lists {
+		for _, want := range lists {
+			checkPure(t, "OrderCovers", []any{has, want}, func() []any { return []any{impl.OrderCovers(has, want)} })
+		}
+	}
+}
