@@ -581,3 +581,74 @@ func TestMemoryOfOrders(t *testing.T) {
 		}
 	}
 }
+
+// checkPair checks a function of two tables.
+func checkPair(t *testing.T, name string, a impl.Table, b impl.Table, f func() (impl.Table, bool)) {
+	t.Helper()
+	checkPure(t, name, []any{a, b}, func() []any {
+		x, ok := f()
+		return []any{x, ok}
+	})
+}
+
+func TestMemoryOfPhysicalJoins(t *testing.T) {
+	for _, a := range memoryTables(t) {
+		for _, n := range []int{0, 1, 2, 40} {
+			checkPure(t, "BucketSizes", []any{a}, func() []any { return []any{impl.BucketSizes(a, 0, n)} })
+		}
+		for _, b := range append(memoryTables(t), a) {
+			for _, n := range []int{0, 1, 2, 40} {
+				checkPair(t, "HashJoin", a, b, func() (impl.Table, bool) { return impl.HashJoin(a, b, 0, 0, n) })
+			}
+			checkPair(t, "MergeJoin", a, b, func() (impl.Table, bool) { return impl.MergeJoin(a, b, 0, 0) })
+		}
+	}
+}
+
+func TestMemoryOfSemijoins(t *testing.T) {
+	for _, a := range memoryTables(t) {
+		for _, b := range append(memoryTables(t), a, impl.Table{Width: 1}) {
+			for _, c := range []int{0, 1} {
+				checkPair(t, "SemiJoin", a, b, func() (impl.Table, bool) { return impl.SemiJoin(a, b, c, 0) })
+				checkPair(t, "AntiJoin", a, b, func() (impl.Table, bool) { return impl.AntiJoin(a, b, c, 0) })
+				checkPair(t, "NotIn", a, b, func() (impl.Table, bool) { return impl.NotIn(a, b, c, 0) })
+			}
+		}
+	}
+}
+
+func TestMemoryOfSetOperations(t *testing.T) {
+	m := &maker{state: 2100}
+	for _, a := range memoryTables(t) {
+		list := append(memoryTables(t), a)
+		if impl.ValidTable(a) && len(a.Rows) < impl.MaxRows {
+			list = append(list, roomy(m.related(t, a)), roomy(m.related(t, a)))
+		}
+		for _, b := range list {
+			checkPair(t, "IntersectAll", a, b, func() (impl.Table, bool) { return impl.IntersectAll(a, b) })
+			checkPair(t, "ExceptAll", a, b, func() (impl.Table, bool) { return impl.ExceptAll(a, b) })
+			checkPure(t, "IsSubtable", []any{a, b}, func() []any { return []any{impl.IsSubtable(a, b)} })
+		}
+	}
+}
+
+func TestMemoryOfAggregates(t *testing.T) {
+	for _, kind := range append([]int{0}, kinds...) {
+		for _, s := range []string{"", "null", "3 null 1 2", "9999 9999", "10000"} {
+			values := roomy(row(s))
+			checkPure(t, "Aggregate", []any{values}, func() []any {
+				v, ok := impl.Aggregate(values, kind)
+				return []any{v, ok}
+			})
+		}
+		for _, x := range memoryTables(t) {
+			for _, list := range [][]int{nil, {0}, {1}, {0, 1}, {1, 0}, {0, 1, 2}} {
+				cols := roomy(list)
+				checkPure(t, "GroupBy", []any{x, cols}, func() []any {
+					y, ok := impl.GroupBy(x, cols, kind, 0)
+					return []any{y, ok}
+				})
+			}
+		}
+	}
+}

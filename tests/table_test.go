@@ -211,6 +211,18 @@ func TestP007LimitsOfUnions(t *testing.T) {
 	if u, ok := impl.UnionAll(a, more); !ok || !equal(u, impl.Table{Width: 1}) {
 		t.Errorf("UnionAll of 200 and 201 rows = %v, %v", u, ok)
 	}
+	most, one := tableOf(t, 1, numbered(0, impl.MaxRows)), table(t, 1, "7")
+	for _, pair := range [][2]impl.Table{{most, one}, {one, most}, {more, a}} {
+		if u, ok := impl.UnionAll(pair[0], pair[1]); !ok || !equal(u, impl.Table{Width: 1}) {
+			t.Errorf("UnionAll of %d and %d rows = %v, %v", len(pair[0].Rows), len(pair[1].Rows), u, ok)
+		}
+	}
+	none := impl.Table{Width: 1}
+	for _, pair := range [][2]impl.Table{{most, none}, {none, most}} {
+		if u, ok := impl.UnionAll(pair[0], pair[1]); !ok || !equal(u, most) {
+			t.Errorf("UnionAll of %d and %d rows = %v, %v", len(pair[0].Rows), len(pair[1].Rows), u, ok)
+		}
+	}
 	wide := table(t, 2, "1 2")
 	for _, x := range append(invalidTables(), wide) {
 		for _, pair := range [][2]impl.Table{{x, a}, {a, x}} {
