@@ -2,6 +2,7 @@ package tests
 
 import (
 	"reflect"
+	"slices"
 	"testing"
 
 	"loop.example/queryoptimizer/impl"
@@ -650,5 +651,100 @@ func TestMemoryOfAggregates(t *testing.T) {
 				})
 			}
 		}
+	}
+}
+
+func TestMemoryOfTexts(t *testing.T) {
+	widths := roomy([]int{2, 1})
+	texts := slices.Concat(malformedPlans(), malformedExprs())
+	for _, e := range memoryExprs() {
+		checkPure(t, "EncodeExpr", []any{e}, func() []any { return []any{impl.EncodeExpr(e)} })
+		texts = append(texts, impl.EncodeExpr(e))
+	}
+	for _, p := range append(memoryPlans(), memoryRewritings()...) {
+		checkPure(t, "EncodePlan", []any{p, widths}, func() []any { return []any{impl.EncodePlan(p, widths)} })
+		texts = append(texts, impl.EncodePlan(p, widths))
+	}
+	for _, text := range texts {
+		checkPure(t, "DecodeExpr", nil, func() []any {
+			e, ok := impl.DecodeExpr(text)
+			return []any{e, ok}
+		})
+		checkPure(t, "DecodePlan", []any{widths}, func() []any {
+			p, ok := impl.DecodePlan(text, widths)
+			return []any{p, ok}
+		})
+	}
+}
+
+func TestMemoryOfParameters(t *testing.T) {
+	for _, e := range memoryExprs() {
+		for width := 1; width <= impl.MaxWidth; width++ {
+			checkPure(t, "Extract", []any{e}, func() []any {
+				x, values, ok := impl.Extract(e, width)
+				return []any{x, values, ok}
+			})
+			for _, s := range []string{"", "1", "null 2", "1 2 3 4 5", "10000"} {
+				values := roomy(row(s))
+				checkPure(t, "Bind", []any{e, values}, func() []any {
+					x, ok := impl.Bind(e, width, values)
+					return []any{x, ok}
+				})
+			}
+		}
+	}
+	widths := roomy([]int{2, 1})
+	for _, p := range append(memoryPlans(), memoryRewritings()...) {
+		checkPure(t, "CacheKey", []any{p, widths}, func() []any { return []any{impl.CacheKey(p, widths)} })
+	}
+}
+
+func TestMemoryOfViews(t *testing.T) {
+	widths := roomy([]int{2, 1, 2, 3})
+	db := roomy([]impl.Table{table(t, 2, "null 1", "1 null", "1 2", "1 2", "3 1"), table(t, 1, "null", "1", "1", "4"), {Width: 2}, table(t, 3, "1 2 3")})
+	bad := roomy([]impl.Table{table(t, 2, "1 2"), {Width: 1, Rows: rows("2", "1")}})
+	stored := scan(2)
+	plans := append(memoryPlans(), roomy(stored), roomy(union(stored, distinct(stored))), roomy(join(lit(1), stored, scan(0))))
+	views := append(plans[:8:8], roomy(filter(lit(1), scan(0))), roomy(stored))
+	for _, view := range views {
+		for n := range widths {
+			// The view is a part of one of the plans, with the same memory.
+			for _, p := range append(plans, view, union(view, view), distinct(union(view, stored))) {
+				checkPure(t, "FoldView", []any{p, view, widths}, func() []any {
+					q, count := impl.FoldView(p, view, widths, n)
+					return []any{q, count}
+				})
+				checkPure(t, "ExpandView", []any{p, view, widths}, func() []any {
+					q, ok := impl.ExpandView(p, view, widths, n)
+					return []any{q, ok}
+				})
+			}
+			for _, tables := range [][]impl.Table{db, bad} {
+				checkPure(t, "Materialize", []any{tables, view}, func() []any {
+					result, ok := impl.Materialize(tables, view, n)
+					return []any{result, ok}
+				})
+			}
+		}
+	}
+	// Two tables have the same memory.
+	same := []impl.Table{db[0], db[0], db[1]}
+	checkPure(t, "Materialize", []any{same}, func() []any {
+		result, ok := impl.Materialize(same, scan(0), 1)
+		return []any{result, ok}
+	})
+}
+
+func TestMemoryOfSessions(t *testing.T) {
+	m := &maker{state: 2610}
+	for range 60 {
+		db := roomy(m.db(t, 5))
+		lines := roomy(m.session(widthsOf(db)))
+		checkPure(t, "RunSession", []any{db, lines}, func() []any { return []any{impl.RunSession(db, lines)} })
+	}
+	for _, x := range memoryTables(t) {
+		db := []impl.Table{x, x}
+		lines := roomy([]string{"load (join #0 (scan 0) (scan 1))", "step 0", "run", "load (scan 1)", "run"})
+		checkPure(t, "RunSession", []any{db, lines}, func() []any { return []any{impl.RunSession(db, lines)} })
 	}
 }
